@@ -350,7 +350,8 @@ func TestWrongFunctions(t *testing.T) {
 }
 
 func TestLevels(t *testing.T) {
-	open, closed := func(n int) string { return strings.Repeat("(", n) }, func(n int) string { return strings.Repeat(")", n) }
+	open := func(n int) string { return strings.Repeat("(", n) }
+	closed := func(n int) string { return strings.Repeat(")", n) }
 	reads(t, "x:\n"+open(16)+"x"+closed(16), "x:\nVar@19=x")
 	fails(t, "x:\n"+open(17)+"x"+closed(17), api.ErrDepth, 21)
 	fails(t, "x:\n"+open(30)+"x"+closed(30), api.ErrDepth, 47)

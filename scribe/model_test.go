@@ -287,11 +287,11 @@ func TestAllKindsOfParentheses(t *testing.T) {
 
 // A program that is written isn't changed (rule 4).
 func TestArgumentsAreNotChanged(t *testing.T) {
-	make := func() api.Prog {
+	made := func() api.Prog {
 		return program(two(one(stacked(2), x()), plus(), num(1, -2)), []int{2, 2}, def{"F", fork(num(1), plus(), slash())})
 	}
-	p := make()
-	if _, e := Text(p); e != api.OK || !tree.Same(p, make()) {
+	p := made()
+	if _, e := Text(p); e != api.OK || !tree.Same(p, made()) {
 		t.Error("changed", p, e)
 	}
 }

@@ -161,7 +161,7 @@ func TestBlanks(t *testing.T) {
 	writes(t, rooted(two(variable("a"), known("F"), num(2))), "x:\na F 2")
 	writes(t, rooted(two(num(7), known("F2"), num(2))), "x:\n7 F2 2")
 	writes(t, rooted(two(num(7), known("F"), num(-2))), "x:\n7 F¯2")
-	writes(t, rooted(two(num(7, -8), known("Z"), variable("Zz"[1:]))), "x:\n7 ¯8 Z z")
+	writes(t, rooted(two(num(7, -8), known("Z"), variable("z"))), "x:\n7 ¯8 Z z")
 	writes(t, rooted(two(num(0), known("A9"), variable("a0Z"))), "x:\n0 A9 a0Z")
 	writes(t, rooted(one(known("F"), two(one(known("G"), x()), plus(), x()))), "x:\nF(G x)+x")
 	writes(t, rooted(one(atop(known("F"), known("G")), x())), "x:\n(F G)x")
