@@ -180,6 +180,9 @@ func (m *model) train(i int) (string, int) {
 		if nth >= 3 && nth%2 == 1 && m.toks[i].Kind == token.Num && m.at(i-1) != "⌺" {
 			s, i = m.leaf("Num", i)
 		} else {
+			if !m.f[i] {
+				m.refuse(api.ErrSyntax, i)
+			}
 			s, i = m.function(i)
 		}
 		tines = append(tines, s)

@@ -336,15 +336,30 @@ func TestFunctions(t *testing.T) {
 func TestWrongFunctions(t *testing.T) {
 	for text, at := range map[string]int{
 		// What is no primary.
-		"\\": 3, "⍀": 3, "⍨": 3, "⌺": 3, ".": 3, "∘": 3, ":": 3, "←": 3, "x": 3, "2": 3, "(": 3, "()": 3, "()+": 3, "+.": 4, "+∘": 4, "+:": 4, "+x": 4, "⍨+": 3, "x+": 3,
+		"\\": 3, "⍀": 3, "⍨": 3, "⌺": 3, ".": 3, "∘": 3, ":": 3, "←": 3, "x": 3, "2": 3, "(": 3, "()": 4, "()+": 4, "+.": 4, "+∘": 4, "+:": 4, "+x": 4, "⍨+": 3, "x+": 3,
 		// Near.
 		"+⌺": 4, "+⌺1": 7, "+⌺1 2 3": 7, "⌺1 2": 3, "⌺1": 6, "x⌺1 2": 4, "2⌺1 2": 4, "(⌺1 2": 4, ".⌺1 2": 4, "⌺1 2/": 3, "(x)⌺1 2": 6, "⌺⌺1 2": 6, "()⌺1 2": 5,
 		// Dot.
 		".+": 3, "/.": 4, "..+": 3, "+..×": 4, "+.×.-": 4, "x.+": 3, "2.+": 3, "⍨.+": 3, "+⍨.×": 4, "+⌺1 2.×": 7, "(.+": 3, "(.+)": 3, "∘+": 3, "∘∘.+": 3, "+∘×": 4, "+∘.": 7, ".∘.+": 3, "+.∘.×": 4,
 		// Trains.
-		"+2": 4, "2+": 3, "+2-": 4, "2+2×": 5, "2 F": 3, "(+": 3, "+(-": 4, "+(": 4, "(+)(": 6, ")": 3, "+)": 4, ")+": 3, "+-)": 5, "(2)+": 4, "(2)+F": 4, "(2+)F": 4, "+(x)F": 5,
+		"+2": 4, "2+": 3, "+2-": 4, "2+2×": 5, "2 F": 3, "(+": 3, "+(-": 4, "+(": 4, "(+)(": 6, ")": 3, "+)": 4, ")+": 3, "+-)": 5, "(2)+": 5, "(2)+F": 5, "(2+)F": 4, "+(x)F": 6,
 	} {
 		fails(t, "x:\nF←"+text+"\n)", api.ErrSyntax, at+4)
+	}
+	// A tine that is no function is told at its own token, the last one; what
+	// stands within its Close isn't read (P19.2, P19.5).
+	for text, at := range map[string]int{
+		"x)": 4, "(x)": 5, "((x))": 7, "x)+": 4, "(x)+-": 5, "(2)+-": 5, "+(x)-": 6, "+-(2)": 7, "-(x)+-": 6, "2(x)-": 6, ".)": 4, ")))": 5, "(()+)": 5,
+		"(x)/": 5, "(x)+/": 5, "()⌿⍨": 4, "+(x)/": 6, "(x)∘.+": 5, "(x)+.×": 5, "(x)+⌺1 2": 5, "+(((x))-)": 9,
+		// Behind a Dot a primary is read nevertheless (P19.4).
+		"x).+": 3, "(x).+": 4, "().+": 3, "((x)).+": 6, "(2-).+": 4, "+.(x)": 7, "+.()": 6,
+	} {
+		fails(t, "x:\nF←"+text+"\n)", api.ErrSyntax, at+4)
+	}
+	for text, at := range map[string]int{
+		"x)+)x": 4, "()/)y": 4, "(x)+-)x": 5, "⌿x)F⌺5 1)⌿⍨y": 7, "))F)1": 4, "2((x)+)x": 7, "2(+(x)-)x": 8, "x(+)-(2)x": 10, "(x).+)x": 4,
+	} {
+		fails(t, "x:\n"+text, api.ErrSyntax, at)
 	}
 	reads(t, "x:\nF←2 2+F\n2", "x:\nF@3=Fork@10(Num@7=2,2, Prim@10=+, Known@11=F)\nNum@13=2")
 }
@@ -376,10 +391,14 @@ func TestLevels(t *testing.T) {
 	fails(t, "x:\n"+closed(16), api.ErrSyntax, 3)
 	fails(t, "x:\n"+closed(17), api.ErrDepth, 3)
 	fails(t, "x:\nx"+closed(17), api.ErrDepth, 4)
-	fails(t, "x:\nF←"+closed(17)+"\nx", api.ErrDepth, 7)
-	fails(t, "x:\nF←+."+closed(17)+"\nx", api.ErrDepth, 9)
+	fails(t, "x:\nF←+"+closed(16)+"\nx", api.ErrSyntax, 8)
+	fails(t, "x:\nF←+"+closed(17)+"\nx", api.ErrDepth, 8)
+	fails(t, "x:\nF←+"+closed(17)+".-\nx", api.ErrDepth, 8)
 	// Nothing is read from a Close that must not stand there, so it is no level.
 	fails(t, "x:\n"+open(16)+"(x)x"+closed(16), api.ErrSyntax, 21)
+	fails(t, "x:\n"+open(15)+"((x)+)x"+closed(15), api.ErrSyntax, 21)
+	fails(t, "x:\nF←"+closed(17)+"\nx", api.ErrSyntax, 23)
+	fails(t, "x:\nF←+."+closed(17)+"\nx", api.ErrSyntax, 25)
 }
 
 // One and Two stand where their function does, Fork and Atop where their second

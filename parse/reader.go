@@ -89,9 +89,6 @@ func (r *reader) within(closing api.Tok, read func() phrase) phrase {
 func (r *reader) value() phrase {
 	whole := r.operand()
 	for r.more() {
-		if tok, _ := last(r.toks); !endsFunction(r.toks) {
-			fail(api.ErrSyntax, tok.At)
-		}
 		f := r.function()
 		if endsValue(r.toks) {
 			whole = made(tree.Two, f.at(), r.operand(), f, whole)
@@ -116,8 +113,13 @@ func (r *reader) operand() phrase {
 	return r.within(tok, r.value)
 }
 
-// function reads a function (P19.4).
+// function reads a function, from a token on with which one may end (P19.4).
 func (r *reader) function() phrase {
+	// Asked here, for a value and for each tine: behind a Close all that stands
+	// within would be met ahead of it.
+	if tok, _ := last(r.toks); !endsFunction(r.toks) {
+		fail(api.ErrSyntax, tok.At)
+	}
 	operators := r.operators()
 	whole := r.joined()
 	for _, by := range slices.Backward(operators) {
